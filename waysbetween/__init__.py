@@ -1,0 +1,1 @@
+"""Who lies between: shortest ways in small graphs, and the nodes that lie on them."""
