@@ -5,6 +5,9 @@ from waysbetween.graphs import answers
 HIGHEST = 4294967295
 MOST_CALLS = 40
 
+# Two ways of 2 edges from 1 to 4, both 4 long; the edge from 1 to 4 is longer.
+DIAMOND = [(1, 3, 1), (3, 4, 3), (1, 2, 2), (2, 4, 2), (1, 4, 5)]
+
 
 def node():
     return [0]
@@ -28,6 +31,35 @@ def way(x, y, k):
 
 def between(v):
     return [5, v]
+
+
+def share(x, y):
+    return [6, x, y]
+
+
+def ranking(n):
+    return [7, n]
+
+
+def near(x):
+    return [8, x]
+
+
+def needed(x, y):
+    return [9, x, y]
+
+
+def hurt(v):
+    return [10, v]
+
+
+def middle():
+    return [11]
+
+
+def both_ways(pairs):
+    """Edges in both directions, 1 long."""
+    return [given for x, y in pairs for given in ((x, y, 1), (y, x, 1))]
 
 
 def graph(node_total, edges):

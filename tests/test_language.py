@@ -27,6 +27,9 @@ BARRED_WORDS = re.compile(
     r"\b(type|typing|typing_extensions|enum|Enum|IntEnum|StrEnum|Flag|IntFlag|Generic|Protocol|ABC|ABCMeta|namedtuple"
     r"|NamedTuple|TypedDict|TYPE_CHECKING|abstractmethod)\b|dataclass|overload|contextmanager")
 
+KEYWORDS = {"sorted": {"key", "reverse"}, "min": {"key", "default"}, "max": {"key", "default"}, "sum": {"start"},
+            "enumerate": {"start"}, "zip": {"strict"}}
+
 
 def texts():
     """Each file's name and text."""
@@ -55,6 +58,21 @@ def bound_names(tree):
         elif isinstance(part, ast.ImportFrom):
             names.update(alias.asname or alias.name for alias in part.names)
     return names
+
+
+def imported(tree):
+    """The files of the package that this one draws from, and the names that it takes."""
+    rows = [part for part in ast.walk(tree) if isinstance(part, ast.ImportFrom)]
+    return {row.module.split(".")[-1] for row in rows}, {alias.name for row in rows for alias in row.names}
+
+
+def local_names(tree):
+    """Every parameter and every name that is bound within a def or a lambda."""
+    found = set()
+    for part in ast.walk(tree):
+        if isinstance(part, (ast.FunctionDef, ast.Lambda)):
+            found |= bound_names(part) - {getattr(part, "name", None)}
+    return found
 
 
 class LanguageTest(unittest.TestCase):
@@ -109,6 +127,48 @@ class LanguageTest(unittest.TestCase):
                 self.assertEqual(sorted(bound & set(dir(builtins))), [])
                 self.assertEqual(sorted(read - bound - BUILT_IN), [])
                 self.assertEqual([word for word in sorted(bound) if word[0] == "_" and word != "__init__"], [])
+
+    def test_no_local_is_called_like_a_class_or_an_import(self):
+        for name, text in texts():
+            tree = ast.parse(text)
+            classes = {part.name for part in ast.walk(tree) if isinstance(part, ast.ClassDef)}
+            with self.subTest(file=name):
+                self.assertEqual(sorted(local_names(tree) & (classes | imported(tree)[1])), [])
+
+    def test_names_are_bound_once_at_the_top(self):
+        for name, text in texts():
+            body = ast.parse(text).body
+            bound = [word for part in body for word in ([part.name] if hasattr(part, "name") else bound_names(part))]
+            with self.subTest(file=name):
+                self.assertEqual(len(bound), len(set(bound)))
+
+    def test_no_two_files_draw_from_one_another(self):
+        left = {name.removesuffix(".py"): imported(ast.parse(text))[0] for name, text in texts()}
+        while left:
+            free = [name for name in left if not left[name] & set(left)]
+            self.assertNotEqual(free, [], left)
+            left = {name: left[name] for name in left if name not in free}
+
+    def test_names_are_drawn_from_where_they_are_defined(self):
+        trees = {name.removesuffix(".py"): ast.parse(text) for name, text in texts()}
+        for part, place in parts():
+            if isinstance(part, ast.ImportFrom):
+                source = trees[part.module.split(".")[-1]]
+                defined = bound_names(source) - imported(source)[1]
+                self.assertEqual([alias.name for alias in part.names if alias.name not in defined], [], place)
+
+    def test_keywords(self):
+        for part, place in parts():
+            if isinstance(part, ast.Call):
+                allowed = KEYWORDS.get(getattr(part.func, "id", None), set())
+                self.assertLessEqual({given.arg for given in part.keywords}, allowed, place)
+
+    def test_no_name_is_both_a_method_and_a_value(self):
+        methods = {part.name for tree, _ in parts() if isinstance(tree, ast.ClassDef) for part in tree.body
+                   if isinstance(part, ast.FunctionDef)}
+        values = {part.attr for part, _ in parts() if isinstance(part, ast.Attribute)
+                  and isinstance(part.ctx, ast.Store)}
+        self.assertEqual(sorted(methods & values), [])
 
     def test_methods_are_the_package_s_own_or_allowed(self):
         own = set().union(*(bound_names(ast.parse(text)) for _, text in texts()))

@@ -11,5 +11,8 @@ class Graph:
     def nodes(self):
         return list(range(1, self.node_total + 1))
 
+    def nodes_but(self, x):
+        return [y for y in self.nodes() if y != x]
+
     def has_node(self, x):
         return 1 <= x <= self.node_total

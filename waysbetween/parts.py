@@ -19,3 +19,11 @@ def greatest_divisor(first, second):
 
 def together(one, other):
     return fraction(one[0] * other[1] + other[0] * one[1], one[1] * other[1])
+
+
+def common_below(several):
+    """The least number that can stand below the line of all these fractions."""
+    below = 1
+    for one in several:
+        below = below * one[1] // greatest_divisor(below, one[1])
+    return below

@@ -1,8 +1,7 @@
-"""The calls that ask about the graph. Each answers its numbers as a list."""
+"""The calls that ask how long and which the shortest ways are. Each answers its numbers as a list."""
 
-from waysbetween.parts import fraction, together
 from waysbetween.refusals import NOT_AS_TOLD, NOT_THERE
-from waysbetween.shortest import Shortest
+from waysbetween.shortest import Shortest, lengths_from
 
 
 def far(graph, x, y):
@@ -39,26 +38,57 @@ def numbered_way(graph, shortest, x, y, k):
     return row
 
 
-def between(graph, v):
+def near(graph, x):
+    if not graph.has_node(x):
+        return [NOT_AS_TOLD]
+    lengths = lengths_to_others(graph, x)
+    return [len(lengths), sum(lengths), max(lengths, default=0)]
+
+
+def lengths_to_others(graph, x):
+    """How long the shortest ways from x are, one to each other node that there's a way to."""
+    lengths = lengths_from(graph, x)
+    return [lengths[y] for y in lengths if y != x]
+
+
+def middle(graph):
+    longest = {}
+    for x in graph.nodes():
+        lengths = lengths_to_others(graph, x)
+        if len(lengths) == graph.node_total - 1:
+            longest[x] = max(lengths, default=0)
+    least = min([longest[x] for x in longest], default=0)
+    found = [x for x in longest if longest[x] == least]
+    return [len(found)] + found
+
+
+def needed(graph, x, y):
+    if not graph.has_node(x) or not graph.has_node(y):
+        return [NOT_AS_TOLD]
+    shortest = Shortest(graph)
+    if x == y or shortest.total(x, y) == 0:
+        return [NOT_THERE]
+    found = [v for v in graph.nodes_but(x) if v != y and shortest.all_by(x, v, y)]
+    return [len(found)] + found
+
+
+def hurt(graph, v):
     if not graph.has_node(v):
         return [NOT_AS_TOLD]
-    return list(lies_between(graph, Shortest(graph), v))
+    pairs = hurt_pairs(graph, v)
+    told = [len(pairs)]
+    for pair in pairs:
+        told.extend(pair)
+    return told
 
 
-def lies_between(graph, shortest, v):
-    """By how much v lies between, as a fraction."""
-    others = [x for x in graph.nodes() if x != v]
-    whole = (0, 1)
+def hurt_pairs(graph, v):
+    """The pairs (from, to) whose shortest ways would be longer or none without all edges of v."""
+    shortest = Shortest(graph)
+    others = graph.nodes_but(v)
+    pairs = []
+    # Without its edges just the ways by v are gone. So a pair keeps a way
+    # as short as now unless all of its shortest ways go by v.
     for start in others:
-        for end in others:
-            if start != end:
-                whole = together(whole, part(shortest, start, v, end))
-    return whole
-
-
-def part(shortest, start, v, end):
-    """The part of v from start to end, as a fraction."""
-    total = shortest.total(start, end)
-    if total == 0:
-        return (0, 1)
-    return fraction(shortest.total_by(start, v, end), total)
+        pairs.extend([(start, end) for end in others if shortest.all_by(start, v, end)])
+    return pairs

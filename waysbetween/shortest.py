@@ -21,12 +21,24 @@ class Shortest:
 
     def total_by(self, start, v, end):
         """How many of the shortest ways from start to end go by v."""
-        ways = self.total(start, v) * self.total(v, end)
+        return self.total_over(start, v, v, 0, end)
+
+    def total_over(self, start, x, y, length, end):
+        """How many of the shortest ways from start to end go the edge from x to y, which is this long.
+
+        With x as y and 0 as the length it's how many go by x.
+        """
+        ways = self.total(start, x) * self.total(y, end)
         if ways == 0:
             return 0
-        if self.lengths[start][v] + self.lengths[v][end] != self.lengths[start][end]:
+        if self.lengths[start][x] + length + self.lengths[y][end] != self.lengths[start][end]:
             return 0
         return ways
+
+    def all_by(self, start, v, end):
+        """Whether there are ways from start to end and all shortest ones go by v."""
+        total = self.total(start, end)
+        return total > 0 and self.total_by(start, v, end) == total
 
     def steps(self, graph, x, end):
         """The nodes that come next after x on shortest ways from x to end, rising."""
